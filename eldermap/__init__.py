@@ -1,0 +1,1 @@
+"""Eldermap: maps of names to values with every elder version kept."""
