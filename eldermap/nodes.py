@@ -27,7 +27,7 @@ def node_behind(node, letter):
 
 
 def letters_on(node):
-    return "".join(sorted(node.branches))
+    return "" if node is None else "".join(sorted(node.branches))
 
 
 # A text without a value and without anything behind it is no beginning any more, so it gets no node.

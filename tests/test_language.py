@@ -1,7 +1,8 @@
-"""The rules of the language that can be read off the package's files: L1, L2, L6, L7, L8, L10, L12, L14, L17,
-L20 and L25 in good part. The rest is for a reader's eye."""
+"""The rules of the language that can be read off the package's files: L1, L2, L6, L7, L8, L10, L12, L14 to L20
+and L25 in good part. The rest is for a reader's eye."""
 
 import ast
+import builtins
 import pathlib
 import re
 import unittest
@@ -45,6 +46,11 @@ def names_bound(tree):
     return bound
 
 
+def names_at_top(tree):
+    bound = {node.name for node in tree.body if isinstance(node, (ast.FunctionDef, ast.ClassDef))}
+    return bound | {node.targets[0].id for node in tree.body if isinstance(node, ast.Assign)}
+
+
 class Language(unittest.TestCase):
     def nodes(self, *kinds):
         for path in files():
@@ -76,6 +82,23 @@ class Language(unittest.TestCase):
         for place, node in self.nodes(ast.ImportFrom):
             self.assertEqual((node.level, node.module.split(".")[0]), (0, "eldermap"), place)
             self.assertNotIn("*", [alias.name for alias in node.names], place)
+            self.assertEqual([alias.asname for alias in node.names], [None] * len(node.names), place)
+
+    def test_a_name_is_drawn_from_the_very_file_that_defines_it(self):
+        for place, node in self.nodes(ast.ImportFrom):
+            tree = ast.parse((PACKAGE / (node.module.split(".")[1] + ".py")).read_text())
+            for alias in node.names:
+                self.assertIn(alias.name, names_at_top(tree), place)
+
+    def test_no_two_files_draw_from_one_another(self):
+        drawn = {path.stem: set() for path in files()}
+        for place, node in self.nodes(ast.ImportFrom):
+            drawn[place.split(".")[0]].add(node.module.split(".")[1])
+        while drawn:
+            free = [name for name in drawn if not drawn[name] & set(drawn)]
+            self.assertNotEqual(free, [], drawn)
+            for name in free:
+                drawn.pop(name)
 
     def test_functions_are_small_and_plain(self):
         for place, node in self.nodes(ast.FunctionDef):
@@ -104,6 +127,34 @@ class Language(unittest.TestCase):
             read = {node.id for node in ast.walk(tree) if isinstance(node, ast.Name)}
             self.assertEqual(read - bound - BUILT_IN, set(), path.name)
             self.assertEqual(bound & BUILT_IN, set(), path.name)
+
+    def test_no_local_is_called_like_a_class_an_import_or_a_name_of_pythons_own(self):
+        for path in files():
+            tree = ast.parse(path.read_text())
+            kept = set(dir(builtins))
+            for node in tree.body:
+                if isinstance(node, ast.ClassDef):
+                    kept.add(node.name)
+                elif isinstance(node, ast.ImportFrom):
+                    kept.update([alias.name for alias in node.names])
+            for node in ast.walk(tree):
+                if isinstance(node, ast.arg):
+                    self.assertNotIn(node.arg, kept, path.name)
+                elif isinstance(node, ast.Name) and isinstance(node.ctx, ast.Store):
+                    self.assertNotIn(node.id, kept, path.name)
+
+    def test_no_name_is_a_method_in_one_class_and_a_value_in_another(self):
+        methods, values = set(), set()
+        for _, node in self.nodes(ast.ClassDef):
+            methods.update([part.name for part in node.body if isinstance(part, ast.FunctionDef)])
+        for _, node in self.nodes(ast.Attribute):
+            if isinstance(node.ctx, ast.Store):
+                values.add(node.attr)
+        self.assertEqual(methods & values, set())
+
+    def test_errors_are_taken_by_the_names_of_the_programs_own(self):
+        for place, node in self.nodes(ast.ExceptHandler):
+            self.assertIn(ast.unparse(node.type) if node.type else "", ("MapError", "NoVersion", "NoName"), place)
 
     def test_methods_are_the_allowed_ones_or_own(self):
         own = {node.name for _, node in self.nodes(ast.FunctionDef)}
